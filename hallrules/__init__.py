@@ -1,0 +1,1 @@
+"""Taflhall: rules of unequal board wars."""
