@@ -1,8 +1,10 @@
 """The desk: calls on one object come as one list of numbers, and so do the answers go."""
 
+from hallrules.reading import is_size
 from hallrules.refusals import NoRules, OutOfRange, Refusal
-from hallrules.rules import rules_of
-from hallrules.turning import fitting_turns
+from hallrules.rules import LISTED_GROUND, LISTED_START, rules_of
+from hallrules.turning import TURNS, combined, fitting_turns, has_cell, turned, undoing
+from hallrules.writing import made_rules
 
 
 class UnknownCall(ValueError):
@@ -22,7 +24,10 @@ class Hall:
 
 
 class Queue:
-    """The calls' numbers, taken from the front without changing the list."""
+    """The calls' numbers, taken from the front without changing the list.
+
+    A call takes all its numbers ahead of any refusal, as the next call stands behind them.
+    """
 
     def __init__(self, calls):
         self.calls = calls
@@ -61,7 +66,6 @@ def answer_facts(hall, queue):
 
 
 def answer_cells(hall, queue):
-    # k is taken ahead of every refusal: the next call stands behind it.
     k = queue.take_number()
     cells = hall.known_rules().cells
     if k >= len(cells):
@@ -74,8 +78,45 @@ def answer_turns(hall, queue):
     return counted(fitting_turns(known.facts[0], known.facts[1], known.ground))
 
 
+def answer_text(hall, queue):
+    return counted(hall.known_rules().text)
+
+
+def answer_make(hall, queue):
+    name = queue.take_row()
+    facts = queue.take_row()
+    cells = [queue.take_row() for sign in LISTED_GROUND + LISTED_START]
+    return counted(made_rules(name, facts, cells).text)
+
+
+def answer_turn(hall, queue):
+    wide = queue.take_number()
+    high = queue.take_number()
+    turn = queue.take_number()
+    cell = queue.take_number()
+    if not is_size(wide) or not is_size(high) or turn >= TURNS or not has_cell(wide, high, cell):
+        raise OutOfRange()
+    return [turned(wide, high, turn, cell)]
+
+
+def answer_two(hall, queue):
+    turn = queue.take_number()
+    later = queue.take_number()
+    if turn >= TURNS or later >= TURNS:
+        raise OutOfRange()
+    return [combined(turn, later)]
+
+
+def answer_back(hall, queue):
+    turn = queue.take_number()
+    if turn >= TURNS:
+        raise OutOfRange()
+    return [undoing(turn)]
+
+
 # Each call's number is its index.
-CALLS = (answer_rules, answer_name, answer_facts, answer_cells, answer_turns)
+CALLS = (answer_rules, answer_name, answer_facts, answer_cells, answer_turns,
+         answer_text, answer_make, answer_turn, answer_two, answer_back)
 
 
 def answer(hall, queue):

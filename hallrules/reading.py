@@ -123,6 +123,10 @@ class Reader:
             raise TextFault(1, self.place)
 
 
+def is_size(number):
+    return LEAST_SIZE <= number < LEAST_SIZE + len(SIZES)
+
+
 def is_letter(byte):
     return ord("A") <= byte <= ord("Z") or ord("a") <= byte <= ord("z")
 

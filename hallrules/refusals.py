@@ -27,3 +27,10 @@ class TextFault(Refusal):
 
     def __init__(self, kind, place):
         Refusal.__init__(self, [-6, kind, place])
+
+
+class NoText(Refusal):
+    """There is no right text of which just this would be told."""
+
+    def __init__(self):
+        Refusal.__init__(self, [-8])

@@ -3,15 +3,20 @@
 from hallrules.judging import cells_of, check_sheet
 from hallrules.reading import read_sheet
 
+# The signs of the five lists of cells, in the lists' order.
+LISTED_GROUND = "SX#"
+LISTED_START = "hm"
+
 
 class Rules:
     """What a right text says.
 
-    name is a list of bytes, facts the thirteen numbers, cells the five lists of cells' numbers,
-    ground a dict that has each cell's sign by its number.
+    text and name are lists of bytes, facts the thirteen numbers, cells the five lists of cells'
+    numbers, ground a dict that has each cell's sign by its number.
     """
 
-    def __init__(self, name, facts, cells, ground):
+    def __init__(self, text, name, facts, cells, ground):
+        self.text = text
         self.name = name
         self.facts = facts
         self.cells = cells
@@ -27,8 +32,8 @@ def facts_of(sheet):
 
 
 def lists_of(sheet):
-    lists = [cells_of(sheet.ground, sign) for sign in "SX#"]
-    lists.extend([cells_of(sheet.start, sign) for sign in "hm"])
+    lists = [cells_of(sheet.ground, sign) for sign in LISTED_GROUND]
+    lists.extend([cells_of(sheet.start, sign) for sign in LISTED_START])
     return lists
 
 
@@ -37,4 +42,4 @@ def rules_of(codes):
     sheet = read_sheet(codes)
     check_sheet(sheet)
     ground = dict([(cell, sign) for place, cell, sign in sheet.ground])
-    return Rules(sheet.name, facts_of(sheet), lists_of(sheet), ground)
+    return Rules(codes, sheet.name, facts_of(sheet), lists_of(sheet), ground)

@@ -18,6 +18,24 @@ def turned(wide, high, turn, cell):
     return ROW * spot[1] + spot[0]
 
 
+def combined(turn, later):
+    """The turn that does at once what a turn and a later one behind it do."""
+    # A quarter to the right, then mirrored, is the same as mirrored, then a quarter to the left.
+    quarters = later - turn if later >= QUARTERS else later + turn
+    mirrored = (turn >= QUARTERS) != (later >= QUARTERS)
+    return quarters % QUARTERS + (QUARTERS if mirrored else 0)
+
+
+def undoing(turn):
+    """The turn that, behind this one, leaves all as it was."""
+    # With a mirroring in it a turn undoes itself.
+    return turn if turn >= QUARTERS else -turn % QUARTERS
+
+
+def has_cell(wide, high, cell):
+    return cell % ROW < wide and cell // ROW < high
+
+
 def fits(wide, high, ground, turn):
     # Without this, a cell of an oblong ground may come to one that the ground doesn't have.
     if wide != high and turn % 2 == 1:

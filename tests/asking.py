@@ -61,7 +61,24 @@ def cells(k):
     return [3, k]
 
 
-NAME, FACTS, TURNS = [1], [2], [4]
+NAME, FACTS, TURNS, TEXT = [1], [2], [4], [5]
+
+
+def make(*rows):
+    """The call of a name, facts and five lists of cells."""
+    return [6] + [number for row in rows for number in [len(row), *row]]
+
+
+def turn(wide, high, t, cell):
+    return [7, wide, high, t, cell]
+
+
+def two(t, u):
+    return [8, t, u]
+
+
+def back(t):
+    return [9, t]
 
 
 def ask(*calls):
@@ -81,17 +98,29 @@ def judge(text):
     return ask(rules(text))[0]
 
 
-def judge_all(texts):
-    """Answers of many texts, each list of calls kept within the document's bounds."""
+def ask_all(calls):
+    """Answers of many calls, each list of calls kept within the document's bounds and on an object of its own."""
     told = []
     batch, size = [], 0
-    for text in texts:
-        if len(batch) == 300 or size + len(text) + 2 > 30000:
+    for call in calls:
+        if len(batch) == 300 or size + len(call) > 30000:
             told.extend(ask(*batch))
             batch, size = [], 0
-        batch.append(rules(text))
-        size += len(text) + 2
+        batch.append(call)
+        size += len(call)
     return told + (ask(*batch) if batch else [])
+
+
+def judge_all(texts):
+    return ask_all(rules(text) for text in texts)
+
+
+def told_rows(text):
+    """What name, facts and cells 0 to 4 tell of a right text: the rows of which make is to make it again."""
+    told = ask(rules(text), NAME, FACTS, *[cells(k) for k in range(5)])
+    assert told[0] == [0], told[0]
+    assert all(row[:2] == [0, len(row) - 2] for row in told[1:]), told
+    return [row[2:] for row in told[1:]]
 
 
 def listed(row):
@@ -210,6 +239,108 @@ def expected(text):
         place, kind = min(faults)
         return [-6, kind, place]
     return [0]
+
+
+# What a right text says, and of which rows there is one, by the document's words too.
+
+FACT_WORDS = [["hunters", "king"], ["steps", "slides"], ["bare", "armed"], ["two", "four"], ["barred", "passed"],
+              ENMITY, ENMITY, ["edge", "exits"], ["drawn", "hunters", "king"]]
+FACT_BOUNDS = [range(5, 14), range(5, 14), *[range(len(words)) for words in FACT_WORDS], range(1, 60001), range(169)]
+
+
+def rows_of(text):
+    """Name, facts and the five lists of cells of a right text."""
+    lines = text.split("\n")
+    wide, high = sides(text)
+    spots = [(x, y) for y in range(high) for x in range(wide)]
+    lists = [[13 * y + x for x, y in spots if text[ground_place(text, x, y)] == sign] for sign in "SX#"]
+    lists += [[13 * y + x for x, y in spots if text[start_place(text, x, y)] == sign] for sign in "hmK"]
+    words = [word for line in lines[3 + 2 * high:9 + 2 * high] for word in line.split(" ")[1:]]
+    facts = [wide, high, *[choice.index(word) for choice, word in zip(FACT_WORDS, words)],
+             int(lines[9 + 2 * high].split(" ")[1]), lists[5][0]]
+    return [codes(lines[0].split(" ")[1]), facts, *lists[:5]]
+
+
+def can_be_made(name, facts, seat, exits, walls, hunters, men):
+    if not re.fullmatch(NAME_FORM, bytes(name).decode("latin-1")) or len(facts) != 13:
+        return False
+    if any(number not in bound for number, bound in zip(facts, FACT_BOUNDS)):
+        return False
+    wide, high, king = facts[0], facts[1], facts[12]
+    inner = {13 * y + x for y in range(high) for x in range(wide)}
+    if any(row != sorted(set(row) & inner) for row in (seat, exits, walls, hunters, men, [king])):
+        return False
+    ground, pieces = seat + exits + walls, hunters + men + [king]
+    if len(seat) > 1 or len(ground) > len(set(ground)) or len(pieces) > len(set(pieces)):
+        return False
+    if set(pieces) & {*walls, *exits} or {*hunters, *men} & set(seat) or not hunters:
+        return False
+    on_edge = king % 13 in (0, wide - 1) or king // 13 in (0, high - 1)
+    if (facts[9] == 1 and not exits) or (facts[9] == 0 and on_edge):
+        return False
+    return bool(seat) or facts[6:8] == [1, 0]
+
+
+def made_text(name, facts, *lists):
+    """The text of which these rows are told, or None."""
+    if not can_be_made(name, facts, *lists):
+        return None
+    boards = [plain(facts[0], facts[1], [(cell % 13, cell // 13, sign) for sign, row in part for cell in row])
+              for part in (zip("SX#", lists[:3]), zip("hmK", [*lists[3:], facts[12:]]))]
+    words = [choice[number] for choice, number in zip(FACT_WORDS, facts[2:])]
+    return text_of(*boards, name=bytes(name).decode("latin-1"), first=words[0], king=" ".join(words[1:4]),
+                   seat=" ".join(words[4:6]), exits=words[6], goal=words[7], thrice=words[8], limit=facts[11])
+
+
+def random_text(source, wide, high, seat=True, exits=True, walls=True, men=True):
+    """A right text, with a seat and so on where they are asked for."""
+    spots = [(x, y) for y in range(high) for x in range(wide)]
+    source.shuffle(spots)
+    inner = [(x, y) for x, y in spots if 0 < x < wide - 1 and 0 < y < high - 1]
+    goal = source.choice(["edge", "exits"]) if exits else "edge"
+    king = source.choice(inner if goal == "edge" else spots)
+    spots.remove(king)
+    seats = [king if source.randrange(2) else spots.pop()] if seat else []
+    ground = [(*spot, "S") for spot in seats]
+    ground += [(*spots.pop(), "X") for _ in range(source.randrange(1, 5) if exits else 0)]
+    ground += [(*spots.pop(), "#") for _ in range(source.randrange(1, 5) if walls else 0)]
+    start = [(*king, "K")] + [(*spots.pop(), "h") for _ in range(source.randrange(1, 7))]
+    start += [(*spots.pop(), "m") for _ in range(source.randrange(1, 5) if men else 0)]
+    name = source.choice(string.ascii_letters) + "".join(
+        source.choices(string.ascii_letters + string.digits, k=source.randrange(16)))
+    return text_of(plain(wide, high, ground), plain(wide, high, start), name=name, goal=goal,
+                   seat=source.choice(WORD_LINES[2])[5:] if seat else "passed quiet",
+                   first=source.choice(WORD_LINES[0])[6:], king=source.choice(WORD_LINES[1])[5:],
+                   exits=source.choice(ENMITY), thrice=source.choice(WORD_LINES[5])[7:],
+                   limit=source.choice([1, 9, 10, 200, 59999, 60000, source.randrange(1, 60001)]))
+
+
+# The turns, written out.
+
+# Where (x, y) comes to by each turn, w and h being the ground's own sides.
+FORMULAS = [
+    lambda w, h, x, y: (x, y),
+    lambda w, h, x, y: (y, w - 1 - x),
+    lambda w, h, x, y: (w - 1 - x, h - 1 - y),
+    lambda w, h, x, y: (h - 1 - y, x),
+    lambda w, h, x, y: (w - 1 - x, y),
+    lambda w, h, x, y: (y, x),
+    lambda w, h, x, y: (x, h - 1 - y),
+    lambda w, h, x, y: (h - 1 - y, w - 1 - x),
+]
+
+# two t u stands in row t, column u.
+TWO = [
+    [0, 1, 2, 3, 4, 5, 6, 7],
+    [1, 2, 3, 0, 7, 4, 5, 6],
+    [2, 3, 0, 1, 6, 7, 4, 5],
+    [3, 0, 1, 2, 5, 6, 7, 4],
+    [4, 5, 6, 7, 0, 1, 2, 3],
+    [5, 6, 7, 4, 3, 0, 1, 2],
+    [6, 7, 4, 5, 2, 3, 0, 1],
+    [7, 4, 5, 6, 1, 2, 3, 0],
+]
+BACK = [0, 3, 2, 1, 4, 5, 6, 7]
 
 
 ALL_SIGNS = string.ascii_letters + string.digits + " \n\r\t.#_-\x00\x7f\x80\xff"

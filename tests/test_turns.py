@@ -1,10 +1,9 @@
-"""turns: which turns fit a ground (A4, as far as one ground goes)."""
+"""turns: which turns fit a ground (A4)."""
 
 import random
 import unittest
 
-from asking import TURNS, ask, listed, plain, plain_text, rules, text_of
-from hallrules.turning import turned
+from asking import FORMULAS, TURNS, ask, back, listed, plain, plain_text, rules, text_of, two
 
 
 def turns(wide, high, ground):
@@ -18,10 +17,7 @@ def turns(wide, high, ground):
 
 
 def come_to(wide, high, t, x, y):
-    """Where a cell comes to, from the formulas of the eight turns written out."""
-    if t >= 4:
-        x = wide - 1 - x
-    return [(x, y), (y, wide - 1 - x), (wide - 1 - x, high - 1 - y), (high - 1 - y, x)][t % 4]
+    return FORMULAS[t](wide, high, x, y)
 
 
 def orbit(wide, high, group, x, y, sign):
@@ -83,16 +79,6 @@ class ByHand(unittest.TestCase):
         self.assertEqual(ask(rules(moved), TURNS)[1], [0, 8, 0, 1, 2, 3, 4, 5, 6, 7])
 
 
-class EachCell(unittest.TestCase):
-    def test_against_the_formulas(self):
-        for wide in range(5, 14):
-            for high in range(5, 14):
-                for t in range(8):
-                    for x, y in ((0, 0), (1, 0), (wide - 1, 0), (2, 3), (0, high - 1), (wide - 1, high - 2)):
-                        a, b = come_to(wide, high, t, x, y)
-                        self.assertEqual(turned(wide, high, t, 13 * y + x), 13 * b + a, (wide, high, t, x, y))
-
-
 class EachGroup(unittest.TestCase):
     def check(self, wide, high, groups, source):
         for group in groups:
@@ -107,9 +93,18 @@ class EachGroup(unittest.TestCase):
             fit = [t for t in range(8) if (t % 2 == 0 or wide == high) and all(
                 ground.get((x, y)) == ground.get(come_to(wide, high, t, x, y))
                 for x in range(wide) for y in range(high))]
-            self.assertEqual(turns(wide, high, changes), listed(fit), (wide, high, changes))
+            told = turns(wide, high, changes)
+            self.assertEqual(told, listed(fit), (wide, high, changes))
             self.assertLessEqual(set(group), set(fit))
+            self.check_closed(told[2:])
             self.seen.add(tuple(fit))
+
+    def check_closed(self, fit):
+        # A4: 0 is one, with two the turn that does both, with each the one that undoes it.
+        self.assertIn(0, fit)
+        both = ask(*[two(t, u) for t in fit for u in fit])
+        undone = ask(*[back(t) for t in fit])
+        self.assertLessEqual({turn for told in both + undone for turn in told}, set(fit))
 
     def test_square(self):
         self.seen = set()
